@@ -1,0 +1,1 @@
+"""Parallax: properties of several runs at once."""
