@@ -14,3 +14,8 @@ def is_tuple(x, low, high):
 def are_numbers(xs, low, high):
     """Whether xs is a tuple, perhaps empty, of whole numbers from low to high."""
     return isinstance(xs, tuple) and all(is_number(x, low, high) for x in xs)
+
+
+def is_rising(xs):
+    """Whether xs rises strictly, for a tuple of values that Python orders."""
+    return all([low < high for low, high in zip(xs, xs[1:])])

@@ -1,7 +1,7 @@
 """Systems, their paths, and the rows of colours that they show."""
 
 from parallax.errors import BadSystem, TooMuch
-from parallax.kinds import are_numbers, is_number, is_tuple
+from parallax.kinds import are_numbers, is_number, is_rising, is_tuple
 
 MOST_COLOURS = 4
 MOST_STATES = 8
@@ -75,9 +75,7 @@ def _is_state(state, colours, many):
 
 def _are_states(xs, many):
     """Whether xs is a strictly rising tuple, not empty, of numbers of the many states."""
-    if xs == () or not are_numbers(xs, 0, many - 1):
-        return False
-    return all([low < high for low, high in zip(xs, xs[1:])])
+    return xs != () and are_numbers(xs, 0, many - 1) and is_rising(xs)
 
 
 def _colour_steps(s, ahead):

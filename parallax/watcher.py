@@ -17,7 +17,13 @@ def check_watcher(w):
 def goes(w, state, colours):
     """The state to which w goes from a state by a tuple of colours, or -1."""
     check_watcher(w)
-    return _step(w, state, colours)
+    return step(w, state, colours)
+
+
+def step(w, state, colours):
+    """What goes tells, of a watcher that is checked already."""
+    counts, states = w
+    return states[state][_place(counts, colours)]
 
 
 def accepts_paths(w, systems, paths):
@@ -29,7 +35,7 @@ def accepts_paths(w, systems, paths):
     shown = [[s[2][at][0] for at in path] for s, path in zip(systems, paths)]
     state = 0
     for colours in zip(*shown):
-        state = _step(w, state, colours)
+        state = step(w, state, colours)
         if state == -1:
             return False
     return True
@@ -109,12 +115,6 @@ def _place(counts, colours):
     for count, colour in zip(counts, colours):
         place = place * count + colour
     return place
-
-
-def _step(w, state, colours):
-    """What goes tells, of a watcher that is checked already."""
-    counts, states = w
-    return states[state][_place(counts, colours)]
 
 
 def _reached_pairs(first, second):

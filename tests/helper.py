@@ -54,6 +54,26 @@ def whole(colours, many):
     return first_nexts(colours, tuple(range(many)), (many,) * many)
 
 
+def wheel(many, start=0):
+    """A system of two colours that goes round its many states and shows 1 in state 0 alone."""
+    return (2, (start % many,), tuple((int(at == 0), ((at + 1) % many,)) for at in range(many)))
+
+
+def wheels(time):
+    """Three systems that all show 1 at this time below 280, and each 280 times later, and at no other time."""
+    return (wheel(8, -time), wheel(7, -time), wheel(5, -time))
+
+
+def second_bell(to):
+    """A watcher of three runs that goes on when all show 1: at first from 0 to 1, then from 1 to what is said."""
+    return ((2, 2, 2), ((0,) * 7 + (1,), (1,) * 7 + (to,)))
+
+
+def counter(places, many):
+    """A watcher of one colour at each place that goes round its many states."""
+    return ((1,) * places, tuple(((at + 1) % many,) for at in range(many)))
+
+
 # One state, one colour.
 DULL = (1, (0,), ((0, (0,)),))
 # Shows 0 and 1 in turn, and begins with 0.
@@ -65,6 +85,15 @@ MAZE = (3, (1, 3), ((2, (0, 4)), (0, (0, 2, 3)), (1, (1,)), (0, (2, 4)), (2, (1,
 # Four colours and eight states, each of which may follow each.
 WIDE = whole(4, 8)
 SYSTEMS = (DULL, TURNS, STAIRS, MAZE, WIDE)
+# Shows whatever can be shown with two colours.
+FREE = whole(2, 2)
+# Two colours, of which it shows 0 for ever.
+ZEROS = (2, (0,), ((0, (0,)),))
+# Shows 0 first, then 1 for ever.
+RISE = (2, (0,), ((0, (1,)), (1, (1,))))
+# Two systems that show the same: one decides at time 1 whether it shows 1 from then on, the other at time 0.
+LATE = (2, (0,), ((0, (1, 2)), (0, (1,)), (1, (2,))))
+GUESS = (2, (0, 1), ((0, (2,)), (0, (3,)), (0, (2,)), (1, (3,))))
 
 # One run of one colour, never refused.
 CALM = ((1,), ((0,),))
@@ -77,3 +106,7 @@ THREE = ((2, 1, 3), ((0, 1, 2, -1, 1, 0), (1, 1, 1, 2, -1, 2), (2, -1, 0, 0, 1, 
 # Two runs of two colours, six states in a ring, stopped by (1, 0) where the number is odd.
 RING = ((2, 2), tuple(((k + 1) % 6, k, -1 if k % 2 else 0, (k + 2) % 6) for k in range(6)))
 WATCHERS = (CALM, SPARSE, MIXED, THREE, RING)
+# Two runs of two colours: the first is never less than the second.
+NOT_LESS = ((2, 2), ((0, -1, 0, 0),))
+# Two runs of two colours, whatever they show.
+ANYTHING = ((2, 2), ((0,) * 4,))

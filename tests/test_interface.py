@@ -21,6 +21,23 @@ FUNCTIONS = {
         "turned": ["w", "order"],
         "same": ["count"],
     },
+    "parallax.question": {
+        "check_question": ["q"],
+        "starts": ["q"],
+        "nexts": ["q", "p"],
+        "first_crowd": ["q", "p"],
+        "next_crowd": ["q", "crowd", "p"],
+        "fails_first": ["q", "p"],
+        "fails_next": ["q", "crowd", "p"],
+    },
+    "parallax.answer": {
+        "answer": ["q"],
+        "takes": ["q", "paper"],
+    },
+    "parallax.looks": {
+        "shown_by": ["s", "t"],
+        "equal_looks": ["s", "t"],
+    },
 }
 BELOW = ("BadSystem", "BadWatcher", "BadQuestion", "BadPath", "TooMuch")
 
